@@ -5,13 +5,14 @@ import "crossgrain/api"
 // maxFetch is the most bytes that Fetch answers.
 const maxFetch = 8
 
-// Load: n bytes as a number, or the stop.
+// Load: n bytes as a number, or the stop. The bytes are asked for their right
+// ahead of n: of another n the number is 0, but the stop is the same.
 func (m *Memory) Load(a uint32, n int) (uint32, api.Stop) {
-	if !isWidth(n) {
-		return 0, api.Stop{}
-	}
 	if bad, ok := m.allowed(a, n, api.Read); !ok {
 		return 0, api.Stop{Kind: api.StopLoad, Arg: bad}
+	}
+	if !isWidth(n) {
+		return 0, api.Stop{}
 	}
 	v := uint32(0)
 	for i, b := range m.bytes[a : int(a)+n] {
@@ -50,10 +51,11 @@ func isWidth(n int) bool { return n == 1 || n == 2 || n == 4 }
 
 // allowed asks each byte, not each page: the stop tells the first that may not
 // be used. Behind true the bytes lie together, for those that wrap round begin
-// beyond the memory.
+// beyond the memory. It counts up to n itself, not to its lowest 32 bits, and
+// ends at the memory's end at the latest, whatever n is.
 func (m *Memory) allowed(a uint32, n, right int) (uint32, bool) {
-	for i := range uint32(n) {
-		if b := a + i; b >= api.MemSize || m.rights[b/api.PageSize]&right == 0 {
+	for i := range n {
+		if b := a + uint32(i); b >= api.MemSize || m.rights[b/api.PageSize]&right == 0 {
 			return b, false
 		}
 	}

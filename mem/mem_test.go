@@ -353,15 +353,41 @@ func TestEachRight(t *testing.T) {
 	}
 }
 
+// Of another n Load's number is 0, but each of the n bytes is used: it stops as with 1, 2, 4.
+func TestLoadOfOtherNumbersOfBytes(t *testing.T) {
+	end := uint32(api.MemSize)
+	for _, pages := range []int{0, 1, 2, 255, 256} {
+		for _, right := range []int{api.Read, api.Read | api.Write, 7} {
+			m := mem.New()
+			m.Poke(0, bytes.Repeat([]byte{0xaa}, api.MemSize))
+			for page := range pages {
+				m.Protect(page, right)
+			}
+			for page := pages; page < api.Pages; page++ {
+				m.Protect(page, 7-api.Read)
+			}
+			first := uint32(pages * api.PageSize) // the first byte that may not be read
+			for _, a := range []uint32{0, 1, 253, 254, 255, 256, 257, end - 3, end - 2, end - 1, end, 0x80000000, 0xfffffffe, 0xffffffff} {
+				for _, n := range []int{math.MinInt, -4, -1, 0, 3, 5, 6, 7, 8, 9, 255, 256, 257, 65535, 65536, 65537, 1 << 32, 1<<32 + 1, 1<<32 + 4, math.MaxInt} {
+					want := api.Stop{Kind: api.StopLoad, Arg: max(a, first)}
+					if n <= 0 || a < first && n <= int(first-a) {
+						want = going
+					}
+					if v, s := m.Load(a, n); v != 0 || s != want {
+						t.Errorf("%d pages: Load(%x, %d) = %x, %v, want %v", pages, a, n, v, s, want)
+					}
+				}
+			}
+		}
+	}
+}
+
 func TestOtherNumbersOfBytes(t *testing.T) {
 	for _, m := range []*mem.Memory{mem.New(), open(7)} {
 		m.Poke(0, bytes.Repeat([]byte{0xaa}, api.MemSize))
 		before := all(t, watch(m))
 		for _, n := range []int{0, 3, 5, 6, 7, 8, 9, -1, -4, 65536, 1 << 32, 1<<32 + 4, math.MinInt, math.MaxInt} {
 			for _, a := range []uint32{0, 255, 65535, 65536, 0xffffffff} {
-				if v, s := m.Load(a, n); v != 0 || s != going {
-					t.Errorf("Load(%x, %d) = %x, %v", a, n, v, s)
-				}
 				if s := m.Store(a, n, 1); s != going {
 					t.Errorf("Store(%x, %d): %v", a, n, s)
 				}
@@ -468,6 +494,9 @@ func (w *slow) load(a uint32, n int) (uint32, api.Stop) {
 		return 0, api.Stop{Kind: 5, Arg: bad}
 	}
 	v, by := uint32(0), uint32(1)
+	if n != 1 && n != 2 && n != 4 {
+		return 0, api.Stop{}
+	}
 	for i := range uint32(n) {
 		v += uint32(w.bytes[a+i]) * by
 		by *= 256
@@ -557,6 +586,9 @@ func TestAgainstSlow(t *testing.T) {
 					t.Fatalf("seed %d, step %d: Store(%x, %d) = %v, want %v", seed, step, a, n, got, want)
 				}
 			case 6:
+				if v%4 == 0 {
+					n = int(v/4%12) - 2
+				}
 				got, s := m.Load(a, n)
 				if want, ws := w.load(a, n); got != want || s != ws {
 					t.Fatalf("seed %d, step %d: Load(%x, %d) = %x, %v, want %x, %v", seed, step, a, n, got, s, want, ws)
