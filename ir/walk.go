@@ -1,0 +1,103 @@
+package ir
+
+import (
+	"crossgrain/api"
+	"crossgrain/interp"
+	"crossgrain/mem"
+)
+
+// walk is a block under way: what Check refuses is not walked.
+type walk struct {
+	c      api.Context
+	m      *mem.Memory
+	values []uint32 // by the number of the operation that gives them
+}
+
+// leave goes through operations, up to where the block is left: at the last
+// one at the latest.
+func (w *walk) leave(ops []api.Op) api.Exit {
+	for i, o := range ops {
+		if x, left := w.do(i, o); left {
+			return x
+		}
+	}
+	return api.Exit{}
+}
+
+// do: one operation; the exit counts only where the block is left by it.
+func (w *walk) do(i int, o api.Op) (api.Exit, bool) {
+	x := api.Exit{PC: o.K, N: o.N}
+	a := w.values[o.A] // of what takes no A it is the first value, and not used
+	switch o.Kind {
+	case api.OpPut:
+		w.c[o.W] = a
+		return x, false
+	case api.OpLoad:
+		w.values[i], x.Stop = load(w.m, o.W, a)
+		return x, x.Stop.Kind != api.Going
+	case api.OpStore:
+		x.Stop = store(w.m, o.W, a, w.values[o.B])
+		return x, x.Stop.Kind != api.Going
+	case api.OpWatch:
+		return x, w.m.Touched()
+	case api.OpIf:
+		return x, a != 0
+	case api.OpStopIf:
+		x.Stop.Kind = o.W
+		return x, a != 0
+	case api.OpStop:
+		x.Stop = api.Stop{Kind: o.W, Arg: uint32(o.B)}
+		return x, true
+	case api.OpGoto:
+		return x, true
+	case api.OpGotoT:
+		x.PC = a
+		return x, true
+	}
+	w.values[i] = w.value(o)
+	return x, false
+}
+
+// value: of an operation that only gives one.
+func (w *walk) value(o api.Op) uint32 {
+	a, b, c := w.values[o.A], w.values[o.B], w.values[o.C]
+	switch o.Kind {
+	case api.OpConst:
+		return o.K
+	case api.OpGet:
+		return w.c[o.W]
+	case api.OpBin:
+		return bin(o.W, a, b)
+	case api.OpUn:
+		return un(o.W, a)
+	case api.OpSel:
+		if a != 0 {
+			return b
+		}
+		return c
+	case api.OpFlags:
+		return interp.Flags(o.W, a, b, c)
+	case api.OpCond:
+		return truth(interp.Holds(o.W, a))
+	}
+	return flags(w.c)
+}
+
+// load: a number of memory, of which W tells how many bytes it has, and whether with its sign.
+func load(m *mem.Memory, w int, at uint32) (uint32, api.Stop) {
+	table := [...]struct {
+		bytes  int
+		signed bool
+	}{{bytes: 1}, {bytes: 1, signed: true}, {bytes: 2}, {bytes: 2, signed: true}, {bytes: 4}}
+	r := table[w]
+	v, stop := m.Load(at, r.bytes)
+	if r.signed {
+		v = signed(v, 8*r.bytes)
+	}
+	return v, stop
+}
+
+func store(m *mem.Memory, w int, at, v uint32) api.Stop {
+	bytes := [...]int{1, 2, 4}
+	return m.Store(at, bytes[w], v)
+}
