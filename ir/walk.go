@@ -2,8 +2,8 @@ package ir
 
 import (
 	"crossgrain/api"
-	"crossgrain/interp"
 	"crossgrain/mem"
+	"crossgrain/value"
 )
 
 // walk is a block under way: what Check refuses is not walked.
@@ -60,27 +60,13 @@ func (w *walk) do(i int, o api.Op) (api.Exit, bool) {
 
 // value: of an operation that only gives one.
 func (w *walk) value(o api.Op) uint32 {
-	a, b, c := w.values[o.A], w.values[o.B], w.values[o.C]
 	switch o.Kind {
-	case api.OpConst:
-		return o.K
 	case api.OpGet:
 		return w.c[o.W]
-	case api.OpBin:
-		return bin(o.W, a, b)
-	case api.OpUn:
-		return un(o.W, a)
-	case api.OpSel:
-		if a != 0 {
-			return b
-		}
-		return c
-	case api.OpFlags:
-		return interp.Flags(o.W, a, b, c)
-	case api.OpCond:
-		return truth(interp.Holds(o.W, a))
+	case api.OpNow:
+		return flags(w.c)
 	}
-	return flags(w.c)
+	return value.Of(o, w.values[o.A], w.values[o.B], w.values[o.C])
 }
 
 // load: a number of memory, of which W tells how many bytes it has, and whether with its sign.
@@ -88,11 +74,12 @@ func load(m *mem.Memory, w int, at uint32) (uint32, api.Stop) {
 	table := [...]struct {
 		bytes  int
 		signed bool
-	}{{bytes: 1}, {bytes: 1, signed: true}, {bytes: 2}, {bytes: 2, signed: true}, {bytes: 4}}
+		un     int // what makes the sign
+	}{{bytes: 1}, {bytes: 1, signed: true, un: api.US8}, {bytes: 2}, {bytes: 2, signed: true, un: api.US16}, {bytes: 4}}
 	r := table[w]
 	v, stop := m.Load(at, r.bytes)
 	if r.signed {
-		v = signed(v, 8*r.bytes)
+		v = value.Un(r.un, v)
 	}
 	return v, stop
 }

@@ -1,14 +1,39 @@
-package ir
+// Package value: what operations give of the values that they take.
+package value
 
 import (
 	"math"
 	"math/bits"
 
 	"crossgrain/api"
+	"crossgrain/interp"
 )
 
-// bin: a by b.
-func bin(w int, a, b uint32) uint32 {
+// Of: what an operation gives that hangs on nothing but its fields and what it
+// takes, a, b and c: a const, bin, un, sel, flags or cond. Of other kinds it is 0.
+func Of(o api.Op, a, b, c uint32) uint32 {
+	switch o.Kind {
+	case api.OpConst:
+		return o.K
+	case api.OpBin:
+		return Bin(o.W, a, b)
+	case api.OpUn:
+		return Un(o.W, a)
+	case api.OpSel:
+		if a != 0 {
+			return b
+		}
+		return c
+	case api.OpFlags:
+		return interp.Flags(o.W, a, b, c)
+	case api.OpCond:
+		return truth(interp.Holds(o.W, a))
+	}
+	return 0
+}
+
+// Bin: a by b, as W of bin tells.
+func Bin(w int, a, b uint32) uint32 {
 	switch w {
 	case api.BAdd:
 		return a + b
@@ -58,8 +83,8 @@ func moved(w int, a uint32, n int) uint32 {
 	return bits.RotateLeft32(a, n) // api.BRol
 }
 
-// un: of a.
-func un(w int, a uint32) uint32 {
+// Un: of a, as W of un tells.
+func Un(w int, a uint32) uint32 {
 	switch w {
 	case api.UNot:
 		return ^a
