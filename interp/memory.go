@@ -1,6 +1,9 @@
 package interp
 
-import "crossgrain/api"
+import (
+	"crossgrain/access"
+	"crossgrain/api"
+)
 
 // pushes: what is pushed and where it goes on are taken ahead of the push, for S may be R7.
 func (u *turn) pushes(x api.Ins) api.Stop {
@@ -34,22 +37,13 @@ func (u *turn) pops(x api.Ins) api.Stop {
 }
 
 func (u *turn) loads(x api.Ins) api.Stop {
-	table := [...]struct {
-		bytes  int
-		signed bool
-	}{{bytes: 1}, {bytes: 1, signed: true}, {bytes: 2}, {bytes: 2, signed: true}, {bytes: word}}
-	r := table[x.O]
-	v, stop := u.m.Load(u.at(x), r.bytes)
-	if above := 32 - 8*r.bytes; r.signed {
-		v = uint32(int32(v<<above) >> above)
-	}
+	v, stop := access.Load(u.m, x.O, u.at(x))
 	u.s.R[x.D] = v
 	return stop
 }
 
 func (u *turn) stores(x api.Ins) api.Stop {
-	bytes := [...]int{1, 2, word}
-	return u.m.Store(u.at(x), bytes[x.O], u.s.R[x.D])
+	return access.Store(u.m, x.O, u.at(x), u.s.R[x.D])
 }
 
 // swaps: what loads and then stores at one place. Its store is done even where

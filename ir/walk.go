@@ -1,6 +1,7 @@
 package ir
 
 import (
+	"crossgrain/access"
 	"crossgrain/api"
 	"crossgrain/mem"
 	"crossgrain/value"
@@ -33,10 +34,10 @@ func (w *walk) do(i int, o api.Op) (api.Exit, bool) {
 		w.c[o.W] = a
 		return x, false
 	case api.OpLoad:
-		w.values[i], x.Stop = load(w.m, o.W, a)
+		w.values[i], x.Stop = access.Load(w.m, o.W, a)
 		return x, x.Stop.Kind != api.Going
 	case api.OpStore:
-		x.Stop = store(w.m, o.W, a, w.values[o.B])
+		x.Stop = access.Store(w.m, o.W, a, w.values[o.B])
 		return x, x.Stop.Kind != api.Going
 	case api.OpWatch:
 		return x, w.m.Touched()
@@ -67,24 +68,4 @@ func (w *walk) value(o api.Op) uint32 {
 		return flags(w.c)
 	}
 	return value.Of(o, w.values[o.A], w.values[o.B], w.values[o.C])
-}
-
-// load: a number of memory, of which W tells how many bytes it has, and whether with its sign.
-func load(m *mem.Memory, w int, at uint32) (uint32, api.Stop) {
-	table := [...]struct {
-		bytes  int
-		signed bool
-		un     int // what makes the sign
-	}{{bytes: 1}, {bytes: 1, signed: true, un: api.US8}, {bytes: 2}, {bytes: 2, signed: true, un: api.US16}, {bytes: 4}}
-	r := table[w]
-	v, stop := m.Load(at, r.bytes)
-	if r.signed {
-		v = value.Un(r.un, v)
-	}
-	return v, stop
-}
-
-func store(m *mem.Memory, w int, at, v uint32) api.Stop {
-	bytes := [...]int{1, 2, 4}
-	return m.Store(at, bytes[w], v)
 }
