@@ -4,12 +4,11 @@ import (
 	"testing"
 
 	"crossgrain/api"
-	"crossgrain/interp"
 	"crossgrain/mem"
 )
 
-// storing: each instruction that stores, and whether what it stores is a byte,
-// two or four. It stores R1 at the place that R2 has, or, by a push, just below R7.
+// storing: each instruction that stores and does not end a block: R1 at the
+// place that R2 has, or, by a push, just below that of R7.
 func storing() map[string]api.Ins {
 	return map[string]api.Ins{
 		"store of a byte": store(0, 1, 2, 0), "store of two": store(1, 1, 2, 0), "store": store(2, 1, 2, 0),
@@ -18,9 +17,9 @@ func storing() map[string]api.Ins {
 	}
 }
 
-// behind: the state with which such an instruction, at a place, stores there.
-func behind(pc uint32, where uint32) api.State {
-	s := state(pc, 0x50505050, 0x51515151, where)
+// storingAt: a state from 0 on in which such an instruction stores there.
+func storingAt(where uint32) api.State {
+	s := state(0, 0x50505050, 0x51515151, where)
 	s.R[7] = where + 4
 	s.F = 15
 	return s
@@ -34,8 +33,8 @@ func TestStoresIntoItself(t *testing.T) {
 		list[len(list)-1] = byte(-len(list))
 		for where := uint32(0); where < uint32(len(list)); where++ {
 			by(t, some(), what, ground(list...), func(x *trial) {
-				x.run(behind(0, where), 2)
-				x.run(behind(0, where), 40)
+				x.run(storingAt(where), 2)
+				x.run(storingAt(where), 40)
 			})
 		}
 	}
@@ -58,9 +57,8 @@ func TestNextInstructionByHand(t *testing.T) {
 	} {
 		m := ground(y.x...)
 		each(t, what, m, func(x *trial) {
-			n := 5
-			s, stop, done := x.run(y.s, n)
-			if s.R[0] != y.want || stop != (api.Stop{}) || done != n {
+			s, stop, done := x.run(y.s, 5)
+			if s.R[0] != y.want || stop != (api.Stop{}) || done != 5 {
 				t.Errorf("P10.4 %s, %+v: %+v, %v, %d, want R0 %d", what, x.o, s, stop, done, y.want)
 			}
 		})
@@ -83,7 +81,7 @@ func TestCasIntoNext(t *testing.T) {
 func TestCallsPush(t *testing.T) {
 	for _, op := range []int{api.Call, api.CallR} {
 		// 0: inc R3; call 0x40; 0x40: inc R4; lea R7, R7 + 4; dec R0; jcc8 not zero, 0; sys 5
-		first := append(code(inc(3)), code(call(0x3a))...)
+		first := code(inc(3), call(0x3a))
 		if op == api.CallR {
 			first = code(inc(3), movi(1, 0x40), byReg(api.CallR, 1))
 		}
@@ -341,12 +339,12 @@ func TestBlockBeforeNothing(t *testing.T) {
 // A block up to the memory's last byte.
 func TestEndOfMemory(t *testing.T) {
 	m := ground()
-	m.Poke(0xfffa, code(inc(0), jcc8(ifNot, -3), inc(1), jmp8(-6)))
+	// The last byte is how far jmp8 goes, and, come to from 0xffe0, inc R2.
+	m.Poke(0xfffa, code(inc(0), jcc8(ifNot, -3), inc(1), jmp8(0x4a)))
 	m.Poke(0xffe0, code(inc(3), jmp8(0x1c)))
-	m.Poke(0xffff, []byte{0x4a})
 	each(t, "the end of memory", m, func(x *trial) {
 		s, stop, n := x.run(state(0xfffa, 0xfffffff0), 100)
-		if n != 34 || stop != (api.Stop{Kind: api.StopFetch, Arg: 0x10003}) && stop.Kind != api.StopFetch {
+		if n != 34 || stop != (api.Stop{Kind: api.StopFetch, Arg: 0x1004a}) || s.R[1] != 1 {
 			t.Errorf("P10.2 %+v: %+v, %v, %d", x.o, s, stop, n)
 		}
 		for range 3 {
@@ -363,7 +361,7 @@ func TestEndOfMemory(t *testing.T) {
 	})
 }
 
-// Behind New, Run and Flush each block is right from many contexts, with many lefts; the call that is asked is the cache's own too.
+// Each block is right from many contexts, with many lefts, by the cache's own Run too.
 func TestBlocksByTheHost(t *testing.T) {
 	m := ground(code(dec(0), load(4, 1, 6, 0), store(2, 1, 5, 4), jcc8(ifNot, 3), sys(3), alone(0), push(1), alone(api.Pushf),
 		api.Ins{Op: api.Alu, O: api.Divu, D: 1, S: 2}, call(-25), alone(api.Ret))...)
@@ -387,17 +385,15 @@ func TestBlocksByTheHost(t *testing.T) {
 	})
 }
 
-// What a run of steps tells is what it told, if its page is one of blocks that the guest itself writes to.
+// A loop that pushes and pops in its own page: each push is a change of its bytes.
 func TestStackInCode(t *testing.T) {
-	// A loop that pushes and pops in its own page, as deep as it has room.
 	m := ground(code(push(0), push(1), dec(0), api.Ins{Op: api.Pop, D: 2}, api.Ins{Op: api.Pop, D: 3}, jcc8(ifNot, -7), sys(0))...)
 	each(t, "a stack in the code's page", m, func(x *trial) {
 		s := state(0, 30, 7)
 		s.R[7] = 0xf0
-		got, stop, n := x.run(s, 1000)
-		want, _, _ := interp.Run(copied(m), s, 1000)
-		if got != want || n != 30*6+1 || stop.Kind != api.StopSys {
-			t.Errorf("P10.2 %+v: %+v, %v, %d", x.o, got, stop, n)
+		s, stop, n := x.run(s, 1000)
+		if s.R != [8]uint32{1: 7, 2: 7, 3: 1, 7: 0xf0} || n != 30*6+1 || stop.Kind != api.StopSys {
+			t.Errorf("P10.2 %+v: %+v, %v, %d", x.o, s, stop, n)
 		}
 	})
 }
